@@ -1,0 +1,1 @@
+"""Links with percent forms, query parts and marks."""
