@@ -1,8 +1,10 @@
 """The calls as they are handed in: one list of whole numbers."""
 
 # How many whole numbers stand ahead of a call's rows, and how many rows it has, by its number; 0 where none is told.
-WHOLES = {7: 1}
-ROWS = {0: 1, 3: 1, 4: 2, 5: 2, 6: 1, 7: 1, 8: 1}
+WHOLES = {7: 1, 11: 1}
+ROWS = {
+    0: 1, 3: 1, 4: 2, 5: 2, 6: 1, 7: 1, 8: 1, 11: 1, 12: 1, 13: 1, 14: 1, 15: 1, 16: 1, 17: 2, 18: 1, 19: 2, 20: 2,
+}
 
 
 class Call:

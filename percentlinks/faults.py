@@ -274,14 +274,30 @@ def fault_at_end(state):
     return NO_FAULT
 
 
-def first_fault(text):
-    """The kind and the place of the text's first fault, or None."""
-    state = State()
+def fault_on_the_way(state, text):
+    """Take all signs of the text; the kind and the place of the first one that can't stand, or None."""
     for place, sign in enumerate(text):
         kind = step(state, sign)
         if kind != NO_FAULT:
             return (kind, place)
+    return None
+
+
+def first_fault(text):
+    """The kind and the place of the text's first fault, or None."""
+    state = State()
+    fault = fault_on_the_way(state, text)
+    if fault is not None:
+        return fault
     kind = fault_at_end(state)
     if kind != NO_FAULT:
         return (kind, len(text))
     return None
+
+
+def fault_answer(fault):
+    return [1, fault[0], fault[1]]
+
+
+def state_numbers(state):
+    return [state.mode, state.before, state.first, state.scheme, state.dots, state.label, state.port]

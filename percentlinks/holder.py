@@ -1,20 +1,20 @@
 """The object that holds one link, and the answers to the calls on it."""
 
 from percentlinks.calls import all_calls
-from percentlinks.faults import first_fault
-from percentlinks.link import WHOLE, empty_link, flat_choice, flat_form, is_good, with_query, with_segments
+from percentlinks.faults import fault_answer, first_fault
+from percentlinks.following import followed
+from percentlinks.link import WHOLE, empty_link, flat_choice, flat_form, is_good
+from percentlinks.link import with_fragment, with_query, with_segments
 from percentlinks.query import values_named, with_value, without_name
 from percentlinks.reader import read_link
-from percentlinks.signs import LAST_SIGN
+from percentlinks.refusals import first_refusal
+from percentlinks.texts import answer_alone
 from percentlinks.writer import one_form
 
-NOT_A_SIGN = -1
-TOO_LONG = -2
 NOT_THERE = -3
 NOT_GOOD = -5
 OUT_OF_BOUNDS = -6
 
-TEXT_LIMIT = 2048
 HELD_LIMIT = 8192
 
 
@@ -46,7 +46,7 @@ def answer_load(holder, call):
     text = call.rows[0]
     fault = first_fault(text)
     if fault is not None:
-        return [1, fault[0], fault[1]]
+        return fault_answer(fault)
     holder.link = read_link(text)
     return [0]
 
@@ -114,7 +114,24 @@ def answer_cutquery(holder, call):
     return [0]
 
 
-# By the number of the call.
+def answer_fragment(holder, call):
+    there = call.wholes[0]
+    if there == 0:
+        return hold_short(holder, with_fragment(holder.link, None))
+    if there == 1:
+        return hold_short(holder, with_fragment(holder.link, call.rows[0]))
+    return [NOT_THERE]
+
+
+def answer_follow(holder, call):
+    text = call.rows[0]
+    fault = first_fault(text)
+    if fault is not None:
+        return fault_answer(fault)
+    return hold_short(holder, followed(read_link(text), holder.link))
+
+
+# By the number of the call; the others need no held link.
 ANSWERERS = {
     0: answer_load,
     1: answer_written,
@@ -127,30 +144,19 @@ ANSWERERS = {
     8: answer_push,
     9: answer_pop,
     10: answer_cutquery,
+    11: answer_fragment,
+    12: answer_follow,
 }
 
 
-def has_stranger(row):
-    """Whether a number of the row isn't a sign."""
-    return any([number < 0 or number > LAST_SIGN for number in row])
-
-
-def first_refusal(rows):
-    """The refusal that is looked at ahead of all else, or 0."""
-    # All rows are asked the one before any is asked the other.
-    if any([has_stranger(row) for row in rows]):
-        return NOT_A_SIGN
-    if any([len(row) > TEXT_LIMIT for row in rows]):
-        return TOO_LONG
-    return 0
-
-
 def answer_call(holder, call):
-    refusal = first_refusal(call.rows)
+    refusal = first_refusal(call)
     if refusal < 0:
         return [refusal]
-    answerer = ANSWERERS[call.number]
-    return answerer(holder, call)
+    if call.number in ANSWERERS:
+        answerer = ANSWERERS[call.number]
+        return answerer(holder, call)
+    return answer_alone(call)
 
 
 def answers(calls):

@@ -44,6 +44,10 @@ def with_query(link, query):
     return Link(link.head, link.site, link.segments, query, link.fragment)
 
 
+def with_fragment(link, fragment):
+    return Link(link.head, link.site, link.segments, link.query, fragment)
+
+
 def has_byte(content):
     return any([not is_mark(sign) for sign in content])
 

@@ -8,6 +8,7 @@ SLASH = 47
 COLON = 58
 EQUALS = 61
 QUESTION = 63
+LAST_BYTE = 255
 FIRST_MARK = 256
 LAST_SIGN = 65535
 
@@ -16,6 +17,11 @@ PATH_ENDS = (47, 63, 35)
 HTTPS = (104, 116, 116, 112, 115)
 # The digits 0 to 9, then A to F: percent forms are written with great letters.
 HEX_DIGITS = (48, 49, 50, 51, 52, 53, 54, 55, 56, 57, 65, 66, 67, 68, 69, 70)
+
+
+def all_up_to(last, numbers):
+    """Whether all numbers are from 0 to the last one."""
+    return all([0 <= number <= last for number in numbers])
 
 
 def is_mark(sign):

@@ -68,6 +68,51 @@ def cutquery():
     return [10]
 
 
+def fragment(there, text):
+    return [11, there] + row(text)
+
+
+def follow(text):
+    return [12] + row(text)
+
+
+def read(text):
+    return [13] + row(text)
+
+
+def write(text):
+    return [14] + row(text)
+
+
+def marks(text):
+    return [15] + row(text)
+
+
+def state(text):
+    return [16] + row(text)
+
+
+def meet(first, second):
+    return [17] + row(first) + row(second)
+
+
+def escape(numbers):
+    return [18] + row(numbers)
+
+
+def put(text, data):
+    return [19] + row(text) + row(data)
+
+
+def fill(text, data):
+    return [20] + row(text) + row(data)
+
+
+def data_row(*data):
+    """The data row that tells these data."""
+    return [number for datum in data for number in row(datum)]
+
+
 def run(*calls):
     """The answers to these calls on one new object, one list each."""
     told = answers([number for call in calls for number in call])
@@ -83,6 +128,10 @@ def run(*calls):
 
 
 class LinkCase(unittest.TestCase):
+    def assertAnswer(self, call, answer):
+        """A new object answers the call so."""
+        self.assertEqual(run(call), [answer], call)
+
     def assertFault(self, text, kind, place):
         self.assertEqual(run(load(text)), [[1, kind, place]], text)
 

@@ -10,7 +10,7 @@ import random
 import re
 import unittest
 
-from tests.calling import add, change, drop, get, load, pop, push, run, set_, signs, tree, written
+from tests.calling import add, change, drop, follow, fragment, get, load, pop, push, run, set_, signs, tree, written
 
 TEXT = "(?:[a-zA-Z0-9_~.\u0100-\uffff-]|%[0-9a-fA-F]{2})*"
 HOST = r"[a-z0-9-]{1,63}(?:\.[a-z0-9-]{1,63})*(?::(?P<port>[1-9][0-9]*))?"
@@ -129,4 +129,6 @@ class RoundTrips(unittest.TestCase):
         return source.choice((
             lambda: change(source.randint(0, 2), text()), lambda: push(text()), lambda: set_(text(), text()),
             lambda: add(text(), text()), lambda: drop(text()), lambda: get(text()), pop,
+            lambda: fragment(source.randint(0, 1), text()), lambda: follow(source.choice(("", "x", "/", "?y", "x/y"))),
+            lambda: follow(text()),
         ))()

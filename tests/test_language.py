@@ -21,6 +21,19 @@ isupper items join keys ljust lower lstrip partition pop remove replace reverse 
 setdefault split splitlines startswith strip update upper values zfill bit_length __init__""".split()
 WORDS = """type typing typing_extensions enum Enum IntEnum StrEnum Flag IntFlag Generic Protocol ABC ABCMeta
 namedtuple NamedTuple TypedDict TYPE_CHECKING abstractmethod""".split()
+NOWHERE = """register mro elements open input version_info with_traceback add_note f_back tb_next co_names format
+format_map""".split()
+NOT_AS_NAMES = """attrgetter breakpoint builtins compile copyright credits delattr dir eval exec exit gc getattr globals
+hasattr help id importlib license locals methodcaller os quit setattr super type vars sys chr print""".split()
+WALKED = ("zip", "enumerate", "reversed", "range", "items", "keys", "values")
+WALKERS = ("list", "tuple", "dict", "sorted", "sum", "any", "all", "enumerate", "zip", "min", "max")
+
+
+def called_name(node):
+    """What a call calls by name, as a function or a method; otherwise None."""
+    if not isinstance(node, ast.Call):
+        return None
+    return node.func.attr if isinstance(node.func, ast.Attribute) else getattr(node.func, "id", None)
 
 
 def nodes_of(file):
@@ -123,6 +136,69 @@ class Language(unittest.TestCase):
                       and isinstance(node.ctx, ast.Store)}
             own = set(dir("") + dir(0) + dir([]) + dir({}) + dir(set()) + dir(b""))
             self.assertEqual(stored & own, set(), file)
+
+    def test_names_that_are_not_used(self):
+        for file in FILES:
+            self.assertNotIn(file.stem, dir(builtins))
+            for node in nodes_of(file):
+                if isinstance(node, ast.Name):
+                    self.assertNotIn(node.id, NOWHERE + NOT_AS_NAMES, file)
+                if isinstance(node, ast.Attribute):
+                    self.assertNotIn(node.attr, NOWHERE, file)
+                if isinstance(node, (ast.FunctionDef, ast.ClassDef)):
+                    self.assertNotIn(node.name, NOWHERE + NOT_AS_NAMES, file)
+
+    def test_functions_and_classes_are_plain(self):
+        for file in FILES:
+            for node in nodes_of(file):
+                if isinstance(node, ast.FunctionDef):
+                    own = node.args
+                    self.assertEqual([own.vararg, own.kwarg, own.kwonlyargs, own.posonlyargs, own.defaults, node.returns],
+                                     [None, None, [], [], [], None], node.name)
+                if isinstance(node, ast.arg):
+                    self.assertIsNone(node.annotation, file)
+                if isinstance(node, ast.ClassDef):
+                    self.assertEqual(node.bases, [], node.name)
+                    methods = [inner.name for inner in node.body if isinstance(inner, ast.FunctionDef)]
+                    self.assertEqual(methods, ["__init__"], node.name)
+
+    def test_is_stands_beside_none_true_and_false_alone(self):
+        for file in FILES:
+            for node in nodes_of(file):
+                if isinstance(node, ast.Compare) and isinstance(node.ops[0], (ast.Is, ast.IsNot)):
+                    self.assertIn(getattr(node.comparators[0], "value", 0), (None, True, False), file)
+
+    def test_what_is_walked_is_walked_on_the_spot(self):
+        for file in FILES:
+            nodes = nodes_of(file)
+            walked = [node.iter for node in nodes if isinstance(node, (ast.For, ast.comprehension))]
+            walked += [node.args[0] for node in nodes if called_name(node) in WALKERS and node.args]
+            for node in nodes:
+                if called_name(node) in WALKED:
+                    self.assertIn(node, walked, file)
+
+    def test_lists_and_dicts_of_the_top_are_only_read(self):
+        for file in FILES:
+            nodes = nodes_of(file)
+            kept = [node.targets[0].id for node in nodes[0].body if isinstance(node, ast.Assign)
+                    and isinstance(node.value, (ast.List, ast.Dict))]
+            read = []
+            for node in nodes:
+                if isinstance(node, ast.Subscript) and isinstance(node.ctx, ast.Load):
+                    read.append(node.value)
+                if isinstance(node, ast.Compare) and isinstance(node.ops[0], (ast.In, ast.NotIn)):
+                    read.append(node.comparators[0])
+                if isinstance(node, ast.Attribute) and node.attr == "get":
+                    read.append(node.value)
+            for node in nodes:
+                if isinstance(node, ast.Name) and node.id in kept and isinstance(node.ctx, ast.Load):
+                    self.assertIn(node, read, file)
+
+    def test_no_power_and_no_set(self):
+        for file in FILES:
+            for node in nodes_of(file):
+                self.assertNotIsInstance(node, (ast.Pow, ast.Set), file)
+                self.assertNotIn(called_name(node), ("set", "frozenset"), file)
 
     def test_no_two_files_draw_from_one_another(self):
         drawn = {file.stem: {node.module.split(".")[1] for node in nodes_of(file) if isinstance(node, ast.ImportFrom)}

@@ -1,6 +1,7 @@
 """The refusals, their order, and the bounds of held links."""
 
-from tests.calling import HUGE, LinkCase, add, change, cutquery, drop, get, load, mark, pop, push, run, set_, written
+from tests.calling import HUGE, LinkCase, add, change, cutquery, drop, escape, fill, follow, fragment, get, load, mark
+from tests.calling import marks, meet, pop, push, put, read, run, set_, state, write, written
 
 BEFORE = [load("https://h:7/x/y?a=b&c#f")]
 LONGEST = "a" * 2048
@@ -10,7 +11,9 @@ TOO_LONG = "a" * 2049
 def calls_with(text):
     """Every call of a row, with the text at each of its rows."""
     return (load(text), get(text), set_(text, "x"), set_("x", text), add(text, "x"), add("x", text), drop(text),
-            change(0, text), push(text))
+            change(0, text), push(text), fragment(0, text), fragment(1, text), fragment(2, text), follow(text),
+            read(text), write(text), marks(text), state(text), meet(text, "x"), meet("x", text), escape(text),
+            put(text, []), fill(text, []))
 
 
 def filled():
@@ -37,7 +40,7 @@ class First(LinkCase):
     def test_as_many_numbers_as_may_be(self):
         for call in calls_with(LONGEST):
             with self.subTest(call=call[:2]):
-                self.assertEqual(run(load("x/y"), call)[1][0], 0)
+                self.assertEqual(run(load("x/y"), call)[1][0], -3 if call[:2] == [11, 2] else 0)
 
     def test_a_stranger_goes_before_too_many(self):
         for call in calls_with([97] * 2048 + [65536]):
@@ -45,13 +48,16 @@ class First(LinkCase):
                 self.assertKept(BEFORE, call, [-1])
 
     def test_a_stranger_in_either_row_goes_before_too_many_in_the_other(self):
-        for make in (set_, add):
+        for make in (set_, add, meet):
             self.assertKept(BEFORE, make(TOO_LONG, [65536]), [-1])
             self.assertKept(BEFORE, make([-1], TOO_LONG), [-1])
 
     def test_they_go_before_a_fault(self):
-        self.assertKept(BEFORE, load([58, -1]), [-1])
-        self.assertKept(BEFORE, load(":" * 2049), [-2])
+        for make in (load, follow, read, write, marks, state):
+            self.assertKept(BEFORE, make([58, -1]), [-1])
+            self.assertKept(BEFORE, make(":" * 2049), [-2])
+        self.assertKept(BEFORE, meet(":", [-1]), [-1])
+        self.assertKept(BEFORE, meet(":", ":" * 2049), [-2])
 
     def test_they_go_before_a_segment_that_is_not_there(self):
         self.assertKept(BEFORE, change(9, [-1]), [-1])
@@ -61,6 +67,19 @@ class First(LinkCase):
         self.assertKept([], push([65536]), [-1])
         self.assertKept([], push(TOO_LONG), [-2])
         self.assertKept([load("a/b")], change(0, [256] * 2049), [-2])
+
+
+class Greatest(LinkCase):
+    def test_the_greatest_sign_of_every_call(self):
+        for call in calls_with([65535]):
+            with self.subTest(call=call[:2]):
+                answer = run(load("x"), call)[1]
+                if call[:2] == [11, 2]:
+                    self.assertEqual(answer, [-3])
+                elif call[0] == 18:
+                    self.assertEqual(answer, [-1])
+                else:
+                    self.assertEqual(answer[0], 0)
 
 
 class Last(LinkCase):
